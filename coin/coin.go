@@ -1,11 +1,14 @@
 // Package coin: amounts and rewards, see doc/01-coin.md.
 package coin
 
-import "cairn/api"
+import (
+	"cairn/api"
+	"cairn/number"
+)
 
 // Check tells whether n is an amount.
 func Check(n int) api.Errno {
-	if !within(n, 0, api.MaxCoin) {
+	if !number.Within(n, 0, api.MaxCoin) {
 		return api.ErrRange
 	}
 	return api.OK
@@ -29,7 +32,7 @@ func Sum(l ...int) (int, api.Errno) {
 
 // Reward tells what the block of a height may make.
 func Reward(height int) (int, api.Errno) {
-	if !within(height, 1, api.MaxHeight) {
+	if !number.Within(height, 1, api.MaxHeight) {
 		return 0, api.ErrRange
 	}
 	reward := api.Reward
@@ -41,7 +44,7 @@ func Reward(height int) (int, api.Errno) {
 
 // Supply tells what all blocks up to a height may make together.
 func Supply(height int) (int, api.Errno) {
-	if !within(height, 0, api.MaxHeight) {
+	if !number.Within(height, 0, api.MaxHeight) {
 		return 0, api.ErrRange
 	}
 	rewards := make([]int, height)
@@ -60,7 +63,7 @@ func Split(n, parts int) ([]int, api.Errno) {
 	if e := Check(n); e != api.OK {
 		return nil, e
 	}
-	if !within(parts, 1, api.MaxOuts) {
+	if !number.Within(parts, 1, api.MaxOuts) {
 		return nil, api.ErrRange
 	}
 	shares := make([]int, parts)
@@ -72,5 +75,3 @@ func Split(n, parts int) ([]int, api.Errno) {
 	}
 	return shares, api.OK
 }
-
-func within(n, low, high int) bool { return low <= n && n <= high }
