@@ -2,6 +2,7 @@ package number
 
 import (
 	"math"
+	"slices"
 	"strconv"
 	"testing"
 )
@@ -32,6 +33,30 @@ func TestParseTakesNothingElse(t *testing.T) {
 	for _, s := range []string{"", " ", "07", "00", "-0", "+1", "-", "--1", "1 ", " 1", "1_000", "0x1", "1e3", "1.0", "one", "\u0661", "99999999999999999999", "-99999999999999999999"} {
 		if got, ok := Parse(s); got != 0 || ok {
 			t.Errorf("Parse(%q): %d, %v", s, got, ok)
+		}
+	}
+}
+
+func TestRows(t *testing.T) {
+	for _, c := range []struct {
+		s, word string
+		l       []int
+	}{
+		{"tx 7", "tx", []int{7}}, {"in 3 -1", "in", []int{3, -1}}, {"a 0 1 2 3", "a", []int{0, 1, 2, 3}}, {"none", "none", nil},
+	} {
+		if s := PrintRow(c.word, c.l...); s != c.s {
+			t.Errorf("PrintRow(%q, %v): %q, want %q", c.word, c.l, s, c.s)
+		}
+		if l, ok := ParseRow(c.s, c.word, len(c.l)); !slices.Equal(l, c.l) || !ok {
+			t.Errorf("ParseRow(%q): %v, %v, want %v", c.s, l, ok, c.l)
+		}
+	}
+}
+
+func TestParseRowTakesNothingElse(t *testing.T) {
+	for _, s := range []string{"", " ", "in", "in ", "in 1", "in 1 ", "in 1 2 ", "in 1 2 3", " in 1 2", "in  1 2", "in 1  2", "in 01 2", "in 1 x", "in\t1 2", "in 1\n2", "out 1 2", "In 1 2", "inn 1 2", "1 2"} {
+		if l, ok := ParseRow(s, "in", 2); l != nil || ok {
+			t.Errorf("ParseRow(%q): %v, %v", s, l, ok)
 		}
 	}
 }
