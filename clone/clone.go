@@ -1,0 +1,39 @@
+// Package clone: whole copies, in memory of their own, of what has lists inside, for all layers.
+package clone
+
+import (
+	"slices"
+
+	"cairn/api"
+	"cairn/output"
+)
+
+// Tx is a transaction like t.
+func Tx(t api.Tx) api.Tx {
+	t.Ins, t.Outs = slices.Clone(t.Ins), slices.Clone(t.Outs)
+	for i, in := range t.Ins {
+		t.Ins[i].Key = slices.Clone(in.Key)
+	}
+	for i, o := range t.Outs {
+		t.Outs[i] = output.Copy(o)
+	}
+	return t
+}
+
+// Block is a block like b.
+func Block(b api.Block) api.Block {
+	b.Txs = slices.Clone(b.Txs)
+	for i, t := range b.Txs {
+		b.Txs[i] = Tx(t)
+	}
+	return b
+}
+
+// Tree is a tree like t.
+func Tree(t api.Tree) api.Tree {
+	t.Names, t.Blocks = slices.Clone(t.Names), slices.Clone(t.Blocks)
+	for i, b := range t.Blocks {
+		t.Blocks[i] = Block(b)
+	}
+	return t
+}

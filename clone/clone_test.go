@@ -1,0 +1,144 @@
+package clone
+
+import (
+	"reflect"
+	"testing"
+
+	"cairn/api"
+)
+
+func ops(l ...int) []api.Op {
+	var orders []api.Op
+	for _, n := range l {
+		orders = append(orders, api.Op{Kind: api.Push, N: n})
+	}
+	return orders
+}
+
+// roomyTx is a transaction with spare room behind each list, in which a marker stands.
+func roomyTx() api.Tx {
+	ins := []api.In{{P: api.Point{Tx: 1}, Key: ops(1, 2, 77)[:2]}, {P: api.Point{Tx: 2, At: 1}, Key: ops(77)[:0]}, {P: api.Point{Tx: 77}}}
+	outs := []api.Out{{Coin: 3, Lock: ops(4, 77)[:1]}, {Coin: 5}, {Coin: 77}}
+	return api.Tx{Height: 6, Ins: ins[:2], Outs: outs[:2]}
+}
+
+func roomyBlock() api.Block {
+	txs := []api.Tx{roomyTx(), {}, roomyTx(), {Height: 77}}
+	return api.Block{Parent: 1, Height: 2, Work: 3, Nonce: 4, Txs: txs[:3]}
+}
+
+func roomyTree() api.Tree {
+	return api.Tree{Names: []int{1, 2, 3, 77}[:3], Blocks: []api.Block{roomyBlock(), {}, roomyBlock(), {Parent: 77}}[:3]}
+}
+
+// wholeTx is all of a transaction, the spare room behind its lists too.
+func wholeTx(t api.Tx) api.Tx {
+	t.Ins, t.Outs = t.Ins[:cap(t.Ins)], t.Outs[:cap(t.Outs)]
+	w := api.Tx{Height: t.Height}
+	for _, in := range t.Ins {
+		w.Ins = append(w.Ins, api.In{P: in.P, Key: in.Key[:cap(in.Key)]})
+	}
+	for _, o := range t.Outs {
+		w.Outs = append(w.Outs, api.Out{Coin: o.Coin, Lock: o.Lock[:cap(o.Lock)]})
+	}
+	return w
+}
+
+func wholeBlock(b api.Block) api.Block {
+	var txs []api.Tx
+	for _, t := range b.Txs[:cap(b.Txs)] {
+		txs = append(txs, wholeTx(t))
+	}
+	b.Txs = txs
+	return b
+}
+
+func wholeTree(t api.Tree) api.Tree {
+	var blocks []api.Block
+	for _, b := range t.Blocks[:cap(t.Blocks)] {
+		blocks = append(blocks, wholeBlock(b))
+	}
+	return api.Tree{Names: t.Names[:cap(t.Names)], Blocks: blocks}
+}
+
+// spoilTx changes all memory that a transaction has.
+func spoilTx(t api.Tx) {
+	ins, outs := t.Ins[:cap(t.Ins)], t.Outs[:cap(t.Outs)]
+	for i := range ins {
+		spoilOps(ins[i].Key)
+		ins[i] = api.In{P: api.Point{Tx: 99}}
+	}
+	for i := range outs {
+		spoilOps(outs[i].Lock)
+		outs[i] = api.Out{Coin: 99}
+	}
+}
+
+func spoilOps(l []api.Op) {
+	l = l[:cap(l)]
+	for i := range l {
+		l[i] = api.Op{Kind: 99}
+	}
+}
+
+func spoilBlock(b api.Block) {
+	txs := b.Txs[:cap(b.Txs)]
+	for i := range txs {
+		spoilTx(txs[i])
+		txs[i] = api.Tx{Height: 99}
+	}
+}
+
+func spoilTree(t api.Tree) {
+	names, blocks := t.Names[:cap(t.Names)], t.Blocks[:cap(t.Blocks)]
+	for i := range names {
+		names[i] = 99
+	}
+	for i := range blocks {
+		spoilBlock(blocks[i])
+		blocks[i] = api.Block{Parent: 99}
+	}
+}
+
+func TestCopiesAreAlike(t *testing.T) {
+	for _, x := range []api.Tx{{}, roomyTx(), {Height: -1, Outs: []api.Out{{}}}} {
+		if got := Tx(x); !reflect.DeepEqual(got, x) {
+			t.Errorf("%v, want %v", got, x)
+		}
+	}
+	for _, b := range []api.Block{{}, roomyBlock(), {Parent: -1, Txs: []api.Tx{{}, {}}}} {
+		if got := Block(b); !reflect.DeepEqual(got, b) {
+			t.Errorf("%v, want %v", got, b)
+		}
+	}
+	for _, x := range []api.Tree{{}, roomyTree(), {Names: []int{-1}}, {Blocks: []api.Block{{}}}} {
+		if got := Tree(x); !reflect.DeepEqual(got, x) {
+			t.Errorf("%v, want %v", got, x)
+		}
+	}
+}
+
+func TestCopiesShareNothing(t *testing.T) {
+	x, b, tree := roomyTx(), roomyBlock(), roomyTree()
+	spoilTx(Tx(x))
+	spoilBlock(Block(b))
+	spoilTree(Tree(tree))
+	if !reflect.DeepEqual(wholeTx(x), wholeTx(roomyTx())) {
+		t.Errorf("a transaction shares memory: %v", wholeTx(x))
+	}
+	if !reflect.DeepEqual(wholeBlock(b), wholeBlock(roomyBlock())) {
+		t.Errorf("a block shares memory: %v", wholeBlock(b))
+	}
+	if !reflect.DeepEqual(wholeTree(tree), wholeTree(roomyTree())) {
+		t.Errorf("a tree shares memory: %v", wholeTree(tree))
+	}
+}
+
+func TestListsOfACopyShareNothing(t *testing.T) {
+	shared := roomyTx()
+	tree := Tree(api.Tree{Names: []int{1, 2}, Blocks: []api.Block{{Txs: []api.Tx{shared, shared}}, {Txs: []api.Tx{shared}}}})
+	spoilTx(tree.Blocks[0].Txs[0])
+	if want := roomyTx(); !reflect.DeepEqual(tree.Blocks[0].Txs[1], want) || !reflect.DeepEqual(tree.Blocks[1].Txs[0], want) {
+		t.Errorf("the lists of a copy share memory: %v", tree)
+	}
+}
