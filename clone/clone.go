@@ -8,6 +8,21 @@ import (
 	"cairn/output"
 )
 
+// Coin is a coin like c.
+func Coin(c api.Coin) api.Coin {
+	c.O = output.Copy(c.O)
+	return c
+}
+
+// Coins are coins like those of l.
+func Coins(l []api.Coin) []api.Coin {
+	l = slices.Clone(l)
+	for i, c := range l {
+		l[i] = Coin(c)
+	}
+	return l
+}
+
 // Tx is a transaction like t.
 func Tx(t api.Tx) api.Tx {
 	t.Ins, t.Outs = slices.Clone(t.Ins), slices.Clone(t.Outs)

@@ -31,6 +31,21 @@ func roomyTree() api.Tree {
 	return api.Tree{Names: []int{1, 2, 3, 77}[:3], Blocks: []api.Block{roomyBlock(), {}, roomyBlock(), {Parent: 77}}[:3]}
 }
 
+func roomyCoins() []api.Coin {
+	l := []api.Coin{{P: api.Point{Tx: 1, At: 2}, O: api.Out{Coin: 3, Lock: ops(4, 77)[:1]}, Height: 5, Reward: true}, {Height: 6}, {Height: 77}}
+	return l[:2]
+}
+
+// wholeCoins are all of a list, the spare room behind its lists too.
+func wholeCoins(l []api.Coin) []api.Coin {
+	var w []api.Coin
+	for _, c := range l[:cap(l)] {
+		c.O.Lock = c.O.Lock[:cap(c.O.Lock)]
+		w = append(w, c)
+	}
+	return w
+}
+
 // wholeTx is all of a transaction, the spare room behind its lists too.
 func wholeTx(t api.Tx) api.Tx {
 	t.Ins, t.Outs = t.Ins[:cap(t.Ins)], t.Outs[:cap(t.Outs)]
@@ -59,6 +74,15 @@ func wholeTree(t api.Tree) api.Tree {
 		blocks = append(blocks, wholeBlock(b))
 	}
 	return api.Tree{Names: t.Names[:cap(t.Names)], Blocks: blocks}
+}
+
+// spoilCoins changes all memory that a list of coins has.
+func spoilCoins(l []api.Coin) {
+	l = l[:cap(l)]
+	for i := range l {
+		spoilOps(l[i].O.Lock)
+		l[i] = api.Coin{Height: 99}
+	}
 }
 
 // spoilTx changes all memory that a transaction has.
@@ -101,6 +125,16 @@ func spoilTree(t api.Tree) {
 }
 
 func TestCopiesAreAlike(t *testing.T) {
+	for _, l := range [][]api.Coin{nil, {}, roomyCoins(), {{P: api.Point{At: -1}}}} {
+		if got := Coins(l); !reflect.DeepEqual(got, l) {
+			t.Errorf("%v, want %v", got, l)
+		}
+		for _, c := range l {
+			if got := Coin(c); !reflect.DeepEqual(got, c) {
+				t.Errorf("%v, want %v", got, c)
+			}
+		}
+	}
 	for _, x := range []api.Tx{{}, roomyTx(), {Height: -1, Outs: []api.Out{{}}}} {
 		if got := Tx(x); !reflect.DeepEqual(got, x) {
 			t.Errorf("%v, want %v", got, x)
@@ -119,10 +153,15 @@ func TestCopiesAreAlike(t *testing.T) {
 }
 
 func TestCopiesShareNothing(t *testing.T) {
-	x, b, tree := roomyTx(), roomyBlock(), roomyTree()
+	l, c, x, b, tree := roomyCoins(), roomyCoins(), roomyTx(), roomyBlock(), roomyTree()
+	spoilCoins(Coins(l))
+	spoilOps(Coin(c[0]).O.Lock)
 	spoilTx(Tx(x))
 	spoilBlock(Block(b))
 	spoilTree(Tree(tree))
+	if want := wholeCoins(roomyCoins()); !reflect.DeepEqual(wholeCoins(l), want) || !reflect.DeepEqual(wholeCoins(c), want) {
+		t.Errorf("coins share memory: %v, %v", wholeCoins(l), wholeCoins(c))
+	}
 	if !reflect.DeepEqual(wholeTx(x), wholeTx(roomyTx())) {
 		t.Errorf("a transaction shares memory: %v", wholeTx(x))
 	}
@@ -135,6 +174,12 @@ func TestCopiesShareNothing(t *testing.T) {
 }
 
 func TestListsOfACopyShareNothing(t *testing.T) {
+	coin := roomyCoins()[0]
+	l := Coins([]api.Coin{coin, coin})
+	spoilOps(l[0].O.Lock)
+	if want := roomyCoins()[0]; !reflect.DeepEqual(l[1], want) {
+		t.Errorf("the lists of a copy share memory: %v", l)
+	}
 	shared := roomyTx()
 	tree := Tree(api.Tree{Names: []int{1, 2}, Blocks: []api.Block{{Txs: []api.Tx{shared, shared}}, {Txs: []api.Tx{shared}}}})
 	spoilTx(tree.Blocks[0].Txs[0])

@@ -2,6 +2,7 @@ package unspent
 
 import (
 	"cairn/api"
+	"cairn/clone"
 	"cairn/number"
 	"cairn/tx"
 )
@@ -25,7 +26,7 @@ func Apply(l []api.Coin, t api.Tx, name, height int) ([]api.Coin, api.Undo, api.
 	if e != api.OK {
 		return nil, api.Undo{}, e
 	}
-	return copyCoins(p.coins), api.Undo{Spent: copyCoins(spent)}, api.OK
+	return clone.Coins(p.coins), api.Undo{Spent: clone.Coins(spent)}, api.OK
 }
 
 func checkApply(l []api.Coin, t api.Tx, name, height int) api.Errno {
@@ -84,5 +85,5 @@ func Revert(l []api.Coin, t api.Tx, name int, u api.Undo) ([]api.Coin, api.Errno
 	if e != api.OK {
 		return nil, e
 	}
-	return copyCoins(p.coins), api.OK
+	return clone.Coins(p.coins), api.OK
 }

@@ -7,6 +7,7 @@ import (
 	"testing"
 
 	"cairn/api"
+	"cairn/clone"
 )
 
 func push(l ...int) []api.Op {
@@ -286,7 +287,7 @@ func TestCallsOnlyRead(t *testing.T) {
 	Apply(l, reward(3, x.Outs...), 7, 3)
 	Apply(l, spend(x.Ins, out(1), out(1), out(99)), 7, 3)
 	// What is reverted has spare room, too.
-	after, undo := append(copyCoins(m), coin(77, 0, 77))[:len(m)], append(copyCoins(u.Spent), coin(77, 0, 77))[:2]
+	after, undo := append(clone.Coins(m), coin(77, 0, 77))[:len(m)], append(clone.Coins(u.Spent), coin(77, 0, 77))[:2]
 	_, back := Revert(after, x, 1, api.Undo{Spent: undo})
 	Revert(after, x, 1, api.Undo{Spent: []api.Coin{undo[0], undo[0]}})
 	if e != api.OK || back != api.OK {
@@ -318,15 +319,15 @@ func TestCallsAnswerNewMemory(t *testing.T) {
 	c, _ := Find(l, at(1, 0))
 	spoil([]api.Coin{c})
 	m, u, _ := Apply(l, x, 7, 3)
-	spent := copyCoins(u.Spent)
+	spent := clone.Coins(u.Spent)
 	spoil(m)
 	if !Same(u.Spent, spent) {
 		t.Errorf("the lists of an answer share memory: %v", u.Spent)
 	}
 	spoil(u.Spent)
 	again, u, _ := Apply(l, x, 7, 3)
-	undo := api.Undo{Spent: copyCoins(u.Spent)}
-	after := copyCoins(again)
+	undo := api.Undo{Spent: clone.Coins(u.Spent)}
+	after := clone.Coins(again)
 	back, _ := Revert(again, x, 7, u)
 	spoil(back)
 	kept, _, _ := Apply(l, reward(3, x.Outs...), 7, 3)
