@@ -35,12 +35,18 @@ func Tx(t api.Tx) api.Tx {
 	return t
 }
 
+// Txs are transactions like those of l.
+func Txs(l []api.Tx) []api.Tx {
+	l = slices.Clone(l)
+	for i, t := range l {
+		l[i] = Tx(t)
+	}
+	return l
+}
+
 // Block is a block like b.
 func Block(b api.Block) api.Block {
-	b.Txs = slices.Clone(b.Txs)
-	for i, t := range b.Txs {
-		b.Txs[i] = Tx(t)
-	}
+	b.Txs = Txs(b.Txs)
 	return b
 }
 
@@ -51,4 +57,10 @@ func Tree(t api.Tree) api.Tree {
 		t.Blocks[i] = Block(b)
 	}
 	return t
+}
+
+// Node is a node like n.
+func Node(n api.Node) api.Node {
+	n.T, n.Pool = Tree(n.T), Txs(n.Pool)
+	return n
 }

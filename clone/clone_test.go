@@ -31,6 +31,10 @@ func roomyTree() api.Tree {
 	return api.Tree{Names: []int{1, 2, 3, 77}[:3], Blocks: []api.Block{roomyBlock(), {}, roomyBlock(), {Parent: 77}}[:3]}
 }
 
+func roomyNode() api.Node {
+	return api.Node{T: roomyTree(), Pool: []api.Tx{roomyTx(), {}, roomyTx(), {Height: 77}}[:3], Tip: 5}
+}
+
 func roomyCoins() []api.Coin {
 	l := []api.Coin{{P: api.Point{Tx: 1, At: 2}, O: api.Out{Coin: 3, Lock: ops(4, 77)[:1]}, Height: 5, Reward: true}, {Height: 6}, {Height: 77}}
 	return l[:2]
@@ -59,12 +63,16 @@ func wholeTx(t api.Tx) api.Tx {
 	return w
 }
 
-func wholeBlock(b api.Block) api.Block {
-	var txs []api.Tx
-	for _, t := range b.Txs[:cap(b.Txs)] {
-		txs = append(txs, wholeTx(t))
+func wholeTxs(l []api.Tx) []api.Tx {
+	var w []api.Tx
+	for _, t := range l[:cap(l)] {
+		w = append(w, wholeTx(t))
 	}
-	b.Txs = txs
+	return w
+}
+
+func wholeBlock(b api.Block) api.Block {
+	b.Txs = wholeTxs(b.Txs)
 	return b
 }
 
@@ -74,6 +82,10 @@ func wholeTree(t api.Tree) api.Tree {
 		blocks = append(blocks, wholeBlock(b))
 	}
 	return api.Tree{Names: t.Names[:cap(t.Names)], Blocks: blocks}
+}
+
+func wholeNode(n api.Node) api.Node {
+	return api.Node{T: wholeTree(n.T), Pool: wholeTxs(n.Pool), Tip: n.Tip}
 }
 
 // spoilCoins changes all memory that a list of coins has.
@@ -105,13 +117,15 @@ func spoilOps(l []api.Op) {
 	}
 }
 
-func spoilBlock(b api.Block) {
-	txs := b.Txs[:cap(b.Txs)]
-	for i := range txs {
-		spoilTx(txs[i])
-		txs[i] = api.Tx{Height: 99}
+func spoilTxs(l []api.Tx) {
+	l = l[:cap(l)]
+	for i := range l {
+		spoilTx(l[i])
+		l[i] = api.Tx{Height: 99}
 	}
 }
+
+func spoilBlock(b api.Block) { spoilTxs(b.Txs) }
 
 func spoilTree(t api.Tree) {
 	names, blocks := t.Names[:cap(t.Names)], t.Blocks[:cap(t.Blocks)]
@@ -150,6 +164,16 @@ func TestCopiesAreAlike(t *testing.T) {
 			t.Errorf("%v, want %v", got, x)
 		}
 	}
+	for _, l := range [][]api.Tx{nil, {}, roomyNode().Pool, {{Height: -1}}} {
+		if got := Txs(l); !reflect.DeepEqual(got, l) {
+			t.Errorf("%v, want %v", got, l)
+		}
+	}
+	for _, n := range []api.Node{{}, roomyNode(), {Tip: -1}, {T: api.Tree{Names: []int{-1}}, Pool: []api.Tx{{}}}} {
+		if got := Node(n); !reflect.DeepEqual(got, n) {
+			t.Errorf("%v, want %v", got, n)
+		}
+	}
 }
 
 func TestCopiesShareNothing(t *testing.T) {
@@ -159,6 +183,14 @@ func TestCopiesShareNothing(t *testing.T) {
 	spoilTx(Tx(x))
 	spoilBlock(Block(b))
 	spoilTree(Tree(tree))
+	n := roomyNode()
+	spoilTxs(Txs(n.Pool))
+	other := Node(n)
+	spoilTree(other.T)
+	spoilTxs(other.Pool)
+	if !reflect.DeepEqual(wholeNode(n), wholeNode(roomyNode())) {
+		t.Errorf("a node shares memory: %v", wholeNode(n))
+	}
 	if want := wholeCoins(roomyCoins()); !reflect.DeepEqual(wholeCoins(l), want) || !reflect.DeepEqual(wholeCoins(c), want) {
 		t.Errorf("coins share memory: %v, %v", wholeCoins(l), wholeCoins(c))
 	}
@@ -185,5 +217,10 @@ func TestListsOfACopyShareNothing(t *testing.T) {
 	spoilTx(tree.Blocks[0].Txs[0])
 	if want := roomyTx(); !reflect.DeepEqual(tree.Blocks[0].Txs[1], want) || !reflect.DeepEqual(tree.Blocks[1].Txs[0], want) {
 		t.Errorf("the lists of a copy share memory: %v", tree)
+	}
+	n := Node(api.Node{T: api.Tree{Blocks: []api.Block{{Txs: []api.Tx{shared}}}}, Pool: []api.Tx{shared, shared}})
+	spoilTx(n.Pool[0])
+	if want := roomyTx(); !reflect.DeepEqual(n.Pool[1], want) || !reflect.DeepEqual(n.T.Blocks[0].Txs[0], want) {
+		t.Errorf("the lists of a copy share memory: %v", n)
 	}
 }
