@@ -64,3 +64,21 @@ func Node(n api.Node) api.Node {
 	n.T, n.Pool = Tree(n.T), Txs(n.Pool)
 	return n
 }
+
+// Message is a message like m.
+func Message(m api.Message) api.Message {
+	m.B, m.T = Block(m.B), Tx(m.T)
+	return m
+}
+
+// World is a world like w.
+func World(w api.World) api.World {
+	w.Book.Texts, w.Nodes, w.Net = slices.Clone(w.Book.Texts), slices.Clone(w.Nodes), slices.Clone(w.Net)
+	for i, n := range w.Nodes {
+		w.Nodes[i] = Node(n)
+	}
+	for i, m := range w.Net {
+		w.Net[i] = Message(m)
+	}
+	return w
+}

@@ -35,6 +35,18 @@ func roomyNode() api.Node {
 	return api.Node{T: roomyTree(), Pool: []api.Tx{roomyTx(), {}, roomyTx(), {Height: 77}}[:3], Tip: 5}
 }
 
+func roomyMessage() api.Message {
+	return api.Message{Kind: 1, From: 2, To: 3, Name: 4, B: roomyBlock(), T: roomyTx()}
+}
+
+func roomyWorld() api.World {
+	return api.World{
+		Book:  api.Book{Texts: []string{"a", "b", "spare"}[:2]},
+		Nodes: []api.Node{roomyNode(), {}, roomyNode(), {Tip: 77}}[:3],
+		Net:   []api.Message{roomyMessage(), {}, roomyMessage(), {Kind: 77}}[:3],
+	}
+}
+
 func roomyCoins() []api.Coin {
 	l := []api.Coin{{P: api.Point{Tx: 1, At: 2}, O: api.Out{Coin: 3, Lock: ops(4, 77)[:1]}, Height: 5, Reward: true}, {Height: 6}, {Height: 77}}
 	return l[:2]
@@ -88,6 +100,22 @@ func wholeNode(n api.Node) api.Node {
 	return api.Node{T: wholeTree(n.T), Pool: wholeTxs(n.Pool), Tip: n.Tip}
 }
 
+func wholeMessage(m api.Message) api.Message {
+	m.B, m.T = wholeBlock(m.B), wholeTx(m.T)
+	return m
+}
+
+func wholeWorld(w api.World) api.World {
+	whole := api.World{Book: api.Book{Texts: w.Book.Texts[:cap(w.Book.Texts)]}}
+	for _, n := range w.Nodes[:cap(w.Nodes)] {
+		whole.Nodes = append(whole.Nodes, wholeNode(n))
+	}
+	for _, m := range w.Net[:cap(w.Net)] {
+		whole.Net = append(whole.Net, wholeMessage(m))
+	}
+	return whole
+}
+
 // spoilCoins changes all memory that a list of coins has.
 func spoilCoins(l []api.Coin) {
 	l = l[:cap(l)]
@@ -135,6 +163,65 @@ func spoilTree(t api.Tree) {
 	for i := range blocks {
 		spoilBlock(blocks[i])
 		blocks[i] = api.Block{Parent: 99}
+	}
+}
+
+func spoilMessage(m api.Message) {
+	spoilBlock(m.B)
+	spoilTx(m.T)
+}
+
+func spoilWorld(w api.World) {
+	texts, nodes, net := w.Book.Texts[:cap(w.Book.Texts)], w.Nodes[:cap(w.Nodes)], w.Net[:cap(w.Net)]
+	for i := range texts {
+		texts[i] = "changed"
+	}
+	for i := range nodes {
+		spoilTree(nodes[i].T)
+		spoilTxs(nodes[i].Pool)
+		nodes[i] = api.Node{Tip: 99}
+	}
+	for i := range net {
+		spoilMessage(net[i])
+		net[i] = api.Message{Kind: 99}
+	}
+}
+
+func TestCopiesOfWorldsAreAlike(t *testing.T) {
+	for _, m := range []api.Message{{}, roomyMessage(), {Kind: -1, B: api.Block{Txs: []api.Tx{{}}}}} {
+		if got := Message(m); !reflect.DeepEqual(got, m) {
+			t.Errorf("%v, want %v", got, m)
+		}
+	}
+	for _, w := range []api.World{{}, roomyWorld(), {Book: api.Book{Texts: []string{}}, Nodes: []api.Node{}, Net: []api.Message{}}} {
+		if got := World(w); !reflect.DeepEqual(got, w) {
+			t.Errorf("%v, want %v", got, w)
+		}
+	}
+}
+
+func TestCopiesOfWorldsShareNothing(t *testing.T) {
+	m, w := roomyMessage(), roomyWorld()
+	spoilMessage(Message(m))
+	if !reflect.DeepEqual(wholeMessage(m), wholeMessage(roomyMessage())) {
+		t.Errorf("a message shares memory: %v", wholeMessage(m))
+	}
+	spoilWorld(World(w))
+	if !reflect.DeepEqual(wholeWorld(w), wholeWorld(roomyWorld())) {
+		t.Errorf("a world shares memory: %v", wholeWorld(w))
+	}
+	// Where lists that are copied share memory, those of the copy don't.
+	out := World(api.World{Net: []api.Message{m, m}})
+	spoilMessage(out.Net[0])
+	if !reflect.DeepEqual(out.Net[1], roomyMessage()) {
+		t.Errorf("the lists of a copy share memory: %v", out.Net)
+	}
+	n := roomyNode()
+	out = World(api.World{Nodes: []api.Node{n, n}})
+	spoilTree(out.Nodes[0].T)
+	spoilTxs(out.Nodes[0].Pool)
+	if !reflect.DeepEqual(out.Nodes[1], roomyNode()) {
+		t.Errorf("the lists of a copy share memory: %v", out.Nodes)
 	}
 }
 
